@@ -466,12 +466,14 @@ func mustPlay(t *testing.T, d impl.Door, steps []step) {
 }
 
 func TestFlowMax(t *testing.T) {
+	t.Parallel()
 	if impl.FlowMax != 4 {
 		t.Errorf("FlowMax is %d", impl.FlowMax)
 	}
 }
 
 func TestDoorEdges(t *testing.T) {
+	t.Parallel()
 	mustPlay(t, impl.Door{}, []step{
 		// Nobody comes in ahead of being called, nor a stranger, nor to another port.
 		{"data 4:4 9:10 0 a", "", ""},
@@ -503,6 +505,7 @@ func TestDoorEdges(t *testing.T) {
 }
 
 func TestDoorEdgesOfData(t *testing.T) {
+	t.Parallel()
 	mustPlay(t, impl.Door{}, []step{
 		// From ahead of what may come the flow is opened, and nothing else; so of a place that no stream has.
 		{"data 1:1 4:4 1 a", "", "10=1:1 / 1:1 4:4 up = down ="},
@@ -549,6 +552,7 @@ func TestDoorEdgesOfData(t *testing.T) {
 
 // What goes on that is as long as a text may be goes on; one byte more, and it does not, though it came.
 func TestDoorEdgesOfLength(t *testing.T) {
+	t.Parallel()
 	six, door := strings.Repeat("@1:1;", 6), strings.Repeat("@9:10;", 6)
 	mustPlay(t, impl.Door{}, []step{
 		{"data 1:1 4:4 0 " + six + "abcd", "data 9:10 4:4 0 " + door + "abcd", "10=1:1 / 1:1 4:4 up " + six + "abcd=" + door + "abcd down ="},
@@ -569,6 +573,7 @@ func TestDoorEdgesOfLength(t *testing.T) {
 
 // A packet opens the last flow there may be, and the next one none, and no port; a flow that is there goes on.
 func TestDoorEdgesOfFlows(t *testing.T) {
+	t.Parallel()
 	three := "10=1:1 11=1:2 / 1:1 4:4 up a=a down = / 1:2 4:4 up = down = / 1:1 4:5 up = down ="
 	four := "10=1:1 11=1:2 12=3:9 / 1:1 4:4 up a=a down = / 1:2 4:4 up = down = / 1:1 4:5 up = down = / 3:9 6:9 up = down ="
 	mustPlay(t, impl.Door{}, []step{
@@ -588,6 +593,7 @@ func TestDoorEdgesOfFlows(t *testing.T) {
 
 // None is left: who has a port calls on, who has none does not; the last port goes to who calls, not to whom it names.
 func TestDoorEdgesOfPorts(t *testing.T) {
+	t.Parallel()
 	e := insideEnds()
 	all := "10=1:1 11=1:2 12=1:3 13=1:4 14=1:5 15=1:6 16=1:7 17=1:8"
 	seven := strings.TrimSuffix(all, " 17=1:8")
@@ -608,6 +614,7 @@ func TestDoorEdgesOfPorts(t *testing.T) {
 }
 
 func TestDoorsAsWritten(t *testing.T) {
+	t.Parallel()
 	passed, stayed, changed := 0, 0, 0
 	count := func(d impl.Door, p impl.Pkt) {
 		then := mustBeAsWritten(t, d, p)
@@ -638,6 +645,7 @@ func TestDoorsAsWritten(t *testing.T) {
 }
 
 func TestPlaysAsWritten(t *testing.T) {
+	t.Parallel()
 	passed, flows, ports := 0, 0, 0
 	for _, named := range []int{0, 2, 12} {
 		eachPlay(t, named, func(d impl.Door, p impl.Pkt) {
@@ -657,6 +665,7 @@ func TestPlaysAsWritten(t *testing.T) {
 }
 
 func TestDoorsThatAreNotOk(t *testing.T) {
+	t.Parallel()
 	var pkts []impl.Pkt
 	for _, text := range []string{"data 1:1 4:4 0 a", "data 1:1 4:4 7 a", "ack 1:1 4:4 0", "data 4:4 9:10 0 a", "ack 4:4 9:10 0", "data 2:2 6:6 0 @1:1;", "data 6:6 9:17 0 a", "ack 2:2 6:6 1"} {
 		pkts = append(pkts, pktOf(t, text))
@@ -692,6 +701,7 @@ func fewDoors(t *testing.T) []impl.Door {
 
 // Between any two ends there may be, and with ends that are none.
 func TestPktsOfOtherEnds(t *testing.T) {
+	t.Parallel()
 	none := noEnds()
 	for _, d := range fewDoors(t) {
 		for i, from := range anyEnds() {
@@ -719,6 +729,7 @@ func TestPktsOfOtherEnds(t *testing.T) {
 }
 
 func TestPktsNotInForm(t *testing.T) {
+	t.Parallel()
 	for _, d := range fewDoors(t) {
 		for _, two := range [][2]impl.End{{endNamed(t, "1:1"), endNamed(t, "4:4")}, {endNamed(t, "4:4"), endNamed(t, "9:10")}, {endNamed(t, "3:8"), endNamed(t, "5:1")}, {endNamed(t, "6:1"), endNamed(t, "9:17")}} {
 			wrong := []impl.Pkt{{Kind: 1}, {Kind: 2, Text: "a"}, {Kind: 2, Text: " "}, {Kind: 1, Text: " "}}
@@ -746,6 +757,7 @@ func TestPktsNotInForm(t *testing.T) {
 
 // The empty list and the nil list are the same value.
 func TestDoorEmptyAndNil(t *testing.T) {
+	t.Parallel()
 	empty := impl.Door{Map: make([]impl.Pair, 0, 9), Flows: make([]impl.Flow, 0, 5)}
 	if !impl.DoorOk(empty) || !impl.DoorOk(impl.Door{}) {
 		t.Error("the empty door is not ok")
@@ -830,6 +842,7 @@ func mustHaveOwnLists(t *testing.T, d impl.Door) {
 
 // Nothing is written into an argument or behind its end, and no answer shares memory with it, or with another answer; no two lists of one answer share any.
 func TestDoorAnswersAreNew(t *testing.T) {
+	t.Parallel()
 	texts := []string{"a", "@2:2;", "x@9:10;@", strings.Repeat("b", 40)}
 	wrong := wrongDoors(t)
 	doors := append(okDoors(t), wrong["one flow too many"], wrong["a flow twice"], wrong["no ports"], wrong["flow 1, up: no parts"], wrong["map: two exchanged"])
@@ -862,6 +875,7 @@ func TestDoorAnswersAreNew(t *testing.T) {
 
 // Where the lists of the argument share memory, those of the answer do not.
 func TestDoorOfSharedLists(t *testing.T) {
+	t.Parallel()
 	parts := slices.Repeat([]impl.Part{{Size: 1, Text: "a"}}, 5)
 	whole := impl.Stream{In: "aaaaa", Parts: parts}
 	begin := impl.Stream{In: "aaa", Parts: parts[:3]}
@@ -882,6 +896,7 @@ func TestDoorOfSharedLists(t *testing.T) {
 
 // A stream that went on as much longer text than the door writes is as good as another: what goes on may begin behind place 99.
 func TestDoorOfLongStreams(t *testing.T) {
+	t.Parallel()
 	long := func(size int) impl.Stream {
 		return impl.Stream{In: strings.Repeat("a", size), Parts: slices.Repeat([]impl.Part{{Size: 1, Text: "@9:10;"}}, size)}
 	}
@@ -951,6 +966,7 @@ func mustBeMany(t *testing.T, many int) {
 
 // P53
 func TestP53WhatGoesOut(t *testing.T) {
+	t.Parallel()
 	many := 0
 	eachOut(t, func(d impl.Door, p impl.Pkt, then crossing) {
 		if !then.ok {
@@ -973,6 +989,7 @@ func TestP53WhatGoesOut(t *testing.T) {
 
 // P54
 func TestP54DataThatGoesOut(t *testing.T) {
+	t.Parallel()
 	many := 0
 	eachOut(t, func(d impl.Door, p impl.Pkt, then crossing) {
 		if !then.ok || p.Kind != 1 {
@@ -1001,6 +1018,7 @@ func TestP54DataThatGoesOut(t *testing.T) {
 
 // P55
 func TestP55NobodyUncalled(t *testing.T) {
+	t.Parallel()
 	in, out := 0, 0
 	eachIn(t, func(d impl.Door, p impl.Pkt, then crossing) {
 		if then.ok {
@@ -1027,6 +1045,7 @@ func TestP55NobodyUncalled(t *testing.T) {
 
 // P55
 func TestP55AheadOfBeingCalled(t *testing.T) {
+	t.Parallel()
 	for _, d := range okDoors(t) {
 		for _, from := range outsideEnds() {
 			for _, to := range doorEnds() {
@@ -1047,6 +1066,7 @@ func TestP55AheadOfBeingCalled(t *testing.T) {
 
 // P56
 func TestP56DataThatComesIn(t *testing.T) {
+	t.Parallel()
 	many := 0
 	eachIn(t, func(d impl.Door, p impl.Pkt, then crossing) {
 		if !slices.Equal(d.Map, then.d.Map) || len(d.Flows) != len(then.d.Flows) {
@@ -1069,6 +1089,7 @@ func TestP56DataThatComesIn(t *testing.T) {
 
 // P57
 func TestP57NotTooEarly(t *testing.T) {
+	t.Parallel()
 	many := 0
 	eachPass(t, func(d impl.Door, p impl.Pkt, then crossing) {
 		if !then.ok || p.Kind != 2 {
@@ -1092,6 +1113,7 @@ func TestP57NotTooEarly(t *testing.T) {
 
 // P58
 func TestP58OnceMore(t *testing.T) {
+	t.Parallel()
 	many := 0
 	eachPass(t, func(d impl.Door, p impl.Pkt, then crossing) {
 		again := doorPass(then.d, p)
@@ -1118,6 +1140,7 @@ func TestP58OnceMore(t *testing.T) {
 
 // P58: each piece of what came already, said by itself.
 func TestP58PiecesOfWhatCame(t *testing.T) {
+	t.Parallel()
 	for _, d := range fewDoors(t) {
 		for _, f := range d.Flows {
 			went := textOf(f.Up.Parts)
@@ -1137,6 +1160,7 @@ func TestP58PiecesOfWhatCame(t *testing.T) {
 
 // P59
 func TestP59OtherEnds(t *testing.T) {
+	t.Parallel()
 	many := 0
 	turn := 0
 	other := func(d impl.Door, kind, at int, text string) {
@@ -1170,6 +1194,7 @@ func TestP59OtherEnds(t *testing.T) {
 
 // P60
 func TestP60TheOthersStay(t *testing.T) {
+	t.Parallel()
 	many := 0
 	eachPass(t, func(d impl.Door, p impl.Pkt, then crossing) {
 		if len(then.d.Map) < len(d.Map) || !slices.Equal(then.d.Map[:len(d.Map)], d.Map) {
@@ -1199,6 +1224,7 @@ func TestP60TheOthersStay(t *testing.T) {
 
 // P61
 func TestP61FlowsOfADoor(t *testing.T) {
+	t.Parallel()
 	mustBeOk := func(d impl.Door, want bool) {
 		t.Helper()
 		if ok := impl.DoorOk(d); ok != want || wantDoorOk(d) != want {
@@ -1232,6 +1258,7 @@ func TestP61FlowsOfADoor(t *testing.T) {
 
 // P62
 func TestP62OnePortForAll(t *testing.T) {
+	t.Parallel()
 	many := 0
 	outside := outsideEnds()
 	for _, d := range append(okDoors(t), doorOf(t, mapOf(insideEnds()[:7]...), said{"1:3", "4:9", "", ""})) {
@@ -1259,6 +1286,7 @@ func TestP62OnePortForAll(t *testing.T) {
 
 // P63
 func TestP63WhoIsCalledAnswers(t *testing.T) {
+	t.Parallel()
 	many := 0
 	eachOut(t, func(d impl.Door, p impl.Pkt, then crossing) {
 		if !then.ok || p.Kind != 1 {
@@ -1280,6 +1308,7 @@ func TestP63WhoIsCalledAnswers(t *testing.T) {
 
 // P64
 func TestP64AckOfTooMuch(t *testing.T) {
+	t.Parallel()
 	many, opened := 0, 0
 	one := func(d impl.Door, p impl.Pkt) {
 		went := ""
@@ -1320,6 +1349,7 @@ var heldEnds = []string{"@", "@1", "@9", "@7", "@1:", "@9:", "@1:1", "@3:9", "@9
 
 // P65
 func TestP65WhatIsHeldWaits(t *testing.T) {
+	t.Parallel()
 	for _, d := range []impl.Door{{}, {Map: mapOf(insideEnds()[4:9]...)}, doorOf(t, nil, said{"2:2", "4:4", "abc", ""})} {
 		for _, ahead := range []string{"", "a", "ab@", "@@", "@4:4;", "@9:10;", "x@2:2;", "@1:1;@2:9;", ";:"} {
 			for _, held := range heldEnds {
@@ -1365,6 +1395,7 @@ func cutsName(in string, p impl.Pkt) bool {
 
 // P66
 func TestP66NobodyInsideIsNamed(t *testing.T) {
+	t.Parallel()
 	names, inside := 0, 0
 	for named := range 7 {
 		eachPlay(t, named, func(d impl.Door, p impl.Pkt) {

@@ -83,6 +83,7 @@ func mustNotRead(t *testing.T, text string) {
 }
 
 func TestEndLimits(t *testing.T) {
+	t.Parallel()
 	got := []int{impl.InsideMax, impl.OutsideMin, impl.OutsideMax, impl.DoorAddr, impl.PortMax, impl.DoorMin, impl.DoorMax}
 	want := []int{3, 4, 6, 9, 9, 10, 17}
 	for i := range want {
@@ -93,6 +94,7 @@ func TestEndLimits(t *testing.T) {
 }
 
 func TestEndSides(t *testing.T) {
+	t.Parallel()
 	inside, outside, door := setOf(insideEnds()), setOf(outsideEnds()), setOf(doorEnds())
 	for _, e := range triedEnds() {
 		if got := impl.EndInside(e); got != inside[e] {
@@ -108,6 +110,7 @@ func TestEndSides(t *testing.T) {
 }
 
 func TestEndEdges(t *testing.T) {
+	t.Parallel()
 	for _, c := range []struct {
 		addr, port int
 		side, text string
@@ -135,6 +138,7 @@ func TestEndEdges(t *testing.T) {
 
 // P1
 func TestP1AtMostOneSide(t *testing.T) {
+	t.Parallel()
 	for _, e := range triedEnds() {
 		sides := 0
 		for _, on := range []bool{impl.EndInside(e), impl.EndOutside(e), impl.EndDoor(e)} {
@@ -158,6 +162,7 @@ func TestP1AtMostOneSide(t *testing.T) {
 
 // P2
 func TestP2ReadBack(t *testing.T) {
+	t.Parallel()
 	for _, e := range anyEnds() {
 		text := impl.EndText(e)
 		if got, ok := impl.EndRead(text); !ok || got != e {
@@ -168,6 +173,7 @@ func TestP2ReadBack(t *testing.T) {
 
 // P3
 func TestP3ReadOneWay(t *testing.T) {
+	t.Parallel()
 	valid := setOf(anyEnds())
 	read := map[impl.End]bool{}
 	one := func(text string) {
@@ -191,6 +197,7 @@ func TestP3ReadOneWay(t *testing.T) {
 }
 
 func TestP3WrongTexts(t *testing.T) {
+	t.Parallel()
 	for _, text := range []string{
 		"", ":", "1", "1:", ":1", "9:", "9:1", "11", "910", "0:0", "0:1", "1:0", "9:0",
 		"1:10", "3:17", "4:10", "6:17", "9:9", "9:18", "9:100", "7:1", "8:10", "10:10", "12:1", "19:10",
@@ -208,6 +215,7 @@ func TestP3WrongTexts(t *testing.T) {
 
 // P4
 func TestP4WhosePorts(t *testing.T) {
+	t.Parallel()
 	for _, e := range triedEnds() {
 		ofHost, ofDoor := impl.EndInside(e) || impl.EndOutside(e), impl.EndDoor(e)
 		if ofHost && e.Port >= 10 && e.Port <= 17 {
@@ -227,6 +235,7 @@ func TestP4WhosePorts(t *testing.T) {
 
 // P5
 func TestP5TextChanged(t *testing.T) {
+	t.Parallel()
 	for _, e := range anyEnds() {
 		text := impl.EndText(e)
 		if text == "" {
@@ -248,6 +257,7 @@ func TestP5TextChanged(t *testing.T) {
 
 // P6
 func TestP6TextsApart(t *testing.T) {
+	t.Parallel()
 	ends := anyEnds()
 	for _, a := range ends {
 		for _, b := range ends {

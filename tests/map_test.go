@@ -287,6 +287,7 @@ func furtherEnds(m []impl.Pair) []impl.End {
 }
 
 func TestMapOutEdges(t *testing.T) {
+	t.Parallel()
 	ends := insideEnds()
 	m, port, ok := impl.MapOut(nil, ends[26])
 	if want := []impl.Pair{{Port: 10, Inside: impl.End{Addr: 3, Port: 9}}}; !ok || port != 10 || !slices.Equal(m, want) {
@@ -307,6 +308,7 @@ func TestMapOutEdges(t *testing.T) {
 }
 
 func TestMapTextOutEdges(t *testing.T) {
+	t.Parallel()
 	ends := insideEnds()
 	one, seven, eight := mapOf(ends[:1]...), mapOf(ends[:7]...), mapOf(ends[:8]...)
 	allNew := "@1:1;@1:2;@1:3;@1:4;@1:5;@1:6;@1:7;@1:8;"
@@ -342,6 +344,7 @@ func TestMapTextOutEdges(t *testing.T) {
 }
 
 func TestMapTextInEdges(t *testing.T) {
+	t.Parallel()
 	ends := insideEnds()
 	one, eight := mapOf(ends[26]), mapOf(ends[:8]...)
 	for _, c := range []struct {
@@ -367,6 +370,7 @@ func TestMapTextInEdges(t *testing.T) {
 }
 
 func TestMapsAsWritten(t *testing.T) {
+	t.Parallel()
 	for _, m := range okMaps() {
 		if !impl.MapOk(m) {
 			t.Fatalf("MapOk(%v) is false", m)
@@ -388,6 +392,7 @@ func TestMapsAsWritten(t *testing.T) {
 
 // All short texts, and all of fragments, by a map in which one port is left.
 func TestMapTextsAsWritten(t *testing.T) {
+	t.Parallel()
 	m := mapOf(insideEnds()[20:]...)
 	okTexts(func(text string) {
 		then, out := wantTextOut(t, m, text)
@@ -397,6 +402,7 @@ func TestMapTextsAsWritten(t *testing.T) {
 }
 
 func TestMapsThatAreNotOk(t *testing.T) {
+	t.Parallel()
 	for what, m := range wrongMaps() {
 		if impl.MapOk(m) {
 			t.Errorf("%s: MapOk(%.300v) is true", what, m)
@@ -416,6 +422,7 @@ func TestMapsThatAreNotOk(t *testing.T) {
 }
 
 func TestMapOfWrongEndsAndPorts(t *testing.T) {
+	t.Parallel()
 	for _, m := range okMaps() {
 		for _, e := range notInside() {
 			mustOutFail(t, m, e, nil)
@@ -432,6 +439,7 @@ func TestMapOfWrongEndsAndPorts(t *testing.T) {
 }
 
 func TestMapOfWrongTexts(t *testing.T) {
+	t.Parallel()
 	for _, m := range [][]impl.Pair{nil, mapOf(insideEnds()[:3]...), mapOf(insideEnds()[:8]...)} {
 		for _, text := range wrongTexts() {
 			mustTextOut(t, m, text, nil, "")
@@ -442,6 +450,7 @@ func TestMapOfWrongTexts(t *testing.T) {
 
 // The empty list and the nil list are the same value.
 func TestMapEmptyAndNil(t *testing.T) {
+	t.Parallel()
 	empty := make([]impl.Pair, 0, 4)
 	if !impl.MapOk(nil) || !impl.MapOk(empty) {
 		t.Error("the empty map is not ok")
@@ -462,6 +471,7 @@ func TestMapEmptyAndNil(t *testing.T) {
 
 // Nothing is written into an argument or behind its end, and no answer shares memory with it, or with another answer.
 func TestMapAnswersAreNew(t *testing.T) {
+	t.Parallel()
 	e := insideEnds()
 	mark := impl.Pair{Port: 77, Inside: impl.End{Addr: 7, Port: 7}}
 	scribble := func(list []impl.Pair) {
@@ -504,6 +514,7 @@ func TestMapAnswersAreNew(t *testing.T) {
 
 // P18
 func TestP18OutThenIn(t *testing.T) {
+	t.Parallel()
 	for _, m := range okMaps() {
 		for _, e := range insideEnds() {
 			then, port, ok := impl.MapOut(m, e)
@@ -528,6 +539,7 @@ func TestP18OutThenIn(t *testing.T) {
 
 // P19
 func TestP19WhenNoneIsLeft(t *testing.T) {
+	t.Parallel()
 	for _, m := range okMaps() {
 		for _, e := range insideEnds() {
 			none := portOf(m, e) == 0 && len(m) == wantPorts
@@ -546,6 +558,7 @@ func TestP19WhenNoneIsLeft(t *testing.T) {
 
 // P20
 func TestP20InOfPairs(t *testing.T) {
+	t.Parallel()
 	for _, m := range okMaps() {
 		for port := -5; port <= 40; port++ {
 			want := endFor(m, port)
@@ -558,6 +571,7 @@ func TestP20InOfPairs(t *testing.T) {
 
 // P21
 func TestP21FirstPairs(t *testing.T) {
+	t.Parallel()
 	for _, m := range okMaps() {
 		for n := 0; n <= len(m); n++ {
 			if !impl.MapOk(m[:n]) {
@@ -594,6 +608,7 @@ func eachText(tell func(m []impl.Pair, text string, then []impl.Pair, out string
 
 // P22
 func TestP22ThereAndBack(t *testing.T) {
+	t.Parallel()
 	eachText(func(m []impl.Pair, text string, then []impl.Pair, out string) {
 		// What goes out may be too long to be a text; it has no pieces then, and nothing comes in.
 		if slices.ContainsFunc(namedIn(t, text), isDoor) || !portsEnough(t, m, text) || len(out) >= 40 {
@@ -606,6 +621,7 @@ func TestP22ThereAndBack(t *testing.T) {
 
 // P23
 func TestP23NobodyInside(t *testing.T) {
+	t.Parallel()
 	eachText(func(m []impl.Pair, text string, then []impl.Pair, out string) {
 		if !portsEnough(t, m, text) {
 			return
@@ -618,6 +634,7 @@ func TestP23NobodyInside(t *testing.T) {
 
 // P24
 func TestP24PieceByPiece(t *testing.T) {
+	t.Parallel()
 	eachText(func(m []impl.Pair, text string, then []impl.Pair, out string) {
 		at := 0
 		for _, p := range impl.TextPieces(text) {
@@ -635,6 +652,7 @@ func TestP24PieceByPiece(t *testing.T) {
 
 // P25
 func TestP25BytesStay(t *testing.T) {
+	t.Parallel()
 	eachText(func(m []impl.Pair, text string, then []impl.Pair, out string) {
 		in := impl.MapTextIn(m, text)
 		if len(impl.TextNames(text)) == 0 {
@@ -654,6 +672,7 @@ func TestP25BytesStay(t *testing.T) {
 
 // P26
 func TestP26NobodyOfTheDoor(t *testing.T) {
+	t.Parallel()
 	for _, m := range okMaps() {
 		for _, text := range mapTexts() {
 			for _, e := range namedIn(t, impl.MapTextIn(m, text)) {
@@ -667,6 +686,7 @@ func TestP26NobodyOfTheDoor(t *testing.T) {
 
 // P27
 func TestP27OutOfOut(t *testing.T) {
+	t.Parallel()
 	eachText(func(m []impl.Pair, text string, then []impl.Pair, out string) {
 		if portsEnough(t, m, text) && len(out) < 40 {
 			mustTextOut(t, then, out+"x", then, out+"x")
@@ -676,6 +696,7 @@ func TestP27OutOfOut(t *testing.T) {
 
 // P28
 func TestP28OutOnceMore(t *testing.T) {
+	t.Parallel()
 	eachText(func(m []impl.Pair, text string, then []impl.Pair, out string) {
 		mustTextOut(t, then, text, then, out)
 	})
@@ -683,6 +704,7 @@ func TestP28OutOnceMore(t *testing.T) {
 
 // P29
 func TestP29HowLong(t *testing.T) {
+	t.Parallel()
 	longest := 0
 	eachText(func(m []impl.Pair, text string, then []impl.Pair, out string) {
 		if !portsEnough(t, m, text) {
@@ -706,6 +728,7 @@ func TestP29HowLong(t *testing.T) {
 
 // P30
 func TestP30OneMorePort(t *testing.T) {
+	t.Parallel()
 	for _, m := range okMaps() {
 		if len(m) == wantPorts {
 			continue
@@ -725,6 +748,7 @@ func TestP30OneMorePort(t *testing.T) {
 
 // P31
 func TestP31UntilAllAreGiven(t *testing.T) {
+	t.Parallel()
 	for _, m := range okMaps() {
 		then := m
 		for i, e := range furtherEnds(m) {

@@ -182,12 +182,14 @@ func readAsWritten(t *testing.T, text string) bool {
 }
 
 func TestPktKinds(t *testing.T) {
+	t.Parallel()
 	if impl.PktData != 1 || impl.PktAck != 2 {
 		t.Errorf("the kinds are %d and %d", impl.PktData, impl.PktAck)
 	}
 }
 
 func TestPktEdges(t *testing.T) {
+	t.Parallel()
 	end := func(addr, port int) impl.End { return impl.End{Addr: addr, Port: port} }
 	long := strings.Repeat("a", 40)
 	for _, c := range []struct {
@@ -238,6 +240,7 @@ func TestPktEdges(t *testing.T) {
 
 // Data of nothing is not in form, and no text is that of it: not without the blank, nor with it.
 func TestDataOfNothing(t *testing.T) {
+	t.Parallel()
 	for _, from := range anyEnds() {
 		for _, to := range edgeEnds() {
 			for _, at := range edgePlaces {
@@ -253,6 +256,7 @@ func TestDataOfNothing(t *testing.T) {
 }
 
 func TestPktOkAsWritten(t *testing.T) {
+	t.Parallel()
 	kinds := append([]int{1, 2}, wrongKinds...)
 	places := append(slices.Clone(edgePlaces), wrongAts[:8]...)
 	texts := []string{"", "a", "@1:1;", strings.Repeat("a", 40), strings.Repeat("a", 41), "A", " ", "a "}
@@ -278,6 +282,7 @@ func TestPktOkAsWritten(t *testing.T) {
 
 // What is wrong in one way alone.
 func TestPktsThatAreNotInForm(t *testing.T) {
+	t.Parallel()
 	for _, p := range fewPkts() {
 		mustBeInForm(t, p, true)
 		for _, kind := range wrongKinds {
@@ -291,6 +296,7 @@ func TestPktsThatAreNotInForm(t *testing.T) {
 
 // Any text that words make, so many that there are too few and too many.
 func TestPktReadOfWords(t *testing.T) {
+	t.Parallel()
 	words := []string{"data", "ack", "1:1", "6:9", "9:10", "0", "12", "00", "a", "", "A"}
 	read := 0
 	var grow func(all []string)
@@ -317,6 +323,7 @@ func TestPktReadOfWords(t *testing.T) {
 
 // A packet's text with one byte another one, one more, or one less.
 func TestPktReadOfTextsNearby(t *testing.T) {
+	t.Parallel()
 	alphabet := "0129:; @+-aAdt.\n\x00\xff"
 	for _, p := range fewPkts() {
 		text := wantPktText(p)
@@ -340,6 +347,7 @@ func TestPktReadOfTextsNearby(t *testing.T) {
 }
 
 func TestPktReadOfWrongTexts(t *testing.T) {
+	t.Parallel()
 	for _, text := range []string{
 		"", " ", "  ", "   ", "    ", "     ", "data", "ack", "data ", "ack ", "data 1:1", "ack 1:1", "data 1:1 4:4", "ack 1:1 4:4", "ack 1:1 4:4 ", "ack  1:1 4:4", "1:1 4:4 0", "1:1 4:4 0 a", " 1:1 4:4 0",
 		"data 1:1 4:4 0", "data 1:1 4:4 0 ", "data 1:1 4:4 a", "data 1:1 4:4 ab 0", "ack 1:1 4:4 a", "data 1:1 4:4  a", "data 1:1 0 a", "ack 1:1 0", "ack 4:4 0 0",
@@ -376,6 +384,7 @@ func TestPktReadOfWrongTexts(t *testing.T) {
 
 // Texts of 70 bytes, of more, and of far more: none is a packet's, as the longest there is has 58.
 func TestPktReadOfLongTexts(t *testing.T) {
+	t.Parallel()
 	longest := "data 9:17 9:17 99 " + strings.Repeat("a", 40)
 	if len(longest) != 58 || !readAsWritten(t, longest) {
 		t.Fatalf("%q, of %d bytes, is not read", longest, len(longest))
@@ -411,6 +420,7 @@ func TestPktReadOfLongTexts(t *testing.T) {
 
 // P46
 func TestP46ReadBack(t *testing.T) {
+	t.Parallel()
 	okPkts(func(p impl.Pkt) {
 		mustBeInForm(t, p, true)
 		mustReadPkt(t, impl.PktText(p), p)
@@ -419,6 +429,7 @@ func TestP46ReadBack(t *testing.T) {
 
 // P47
 func TestP47OneWay(t *testing.T) {
+	t.Parallel()
 	read := 0
 	one := func(text string) {
 		p, ok := impl.PktRead(text)
@@ -456,6 +467,7 @@ func TestP47OneWay(t *testing.T) {
 
 // P48
 func TestP48TextsApart(t *testing.T) {
+	t.Parallel()
 	whose := map[string]impl.Pkt{}
 	okPkts(func(p impl.Pkt) {
 		text := impl.PktText(p)
@@ -480,6 +492,7 @@ func TestP48TextsApart(t *testing.T) {
 
 // P49
 func TestP49BytesOfData(t *testing.T) {
+	t.Parallel()
 	okPkts(func(p impl.Pkt) {
 		if !impl.PktOk(p) || (p.Text != "") != (p.Kind == impl.PktData) {
 			t.Fatalf("%s: PktOk is %v", toldPkt(p), impl.PktOk(p))
@@ -491,6 +504,7 @@ func TestP49BytesOfData(t *testing.T) {
 
 // P50
 func TestP50OtherEnds(t *testing.T) {
+	t.Parallel()
 	okPkts(func(p impl.Pkt) {
 		mustBeInForm(t, impl.Pkt{Kind: p.Kind, From: p.To, To: p.From, At: p.At, Text: p.Text}, true)
 	})
@@ -516,6 +530,7 @@ func TestP50OtherEnds(t *testing.T) {
 
 // P51
 func TestP51TextChanged(t *testing.T) {
+	t.Parallel()
 	none, others := 0, 0
 	okPkts(func(p impl.Pkt) {
 		text := impl.PktText(p)
@@ -547,6 +562,7 @@ func TestP51TextChanged(t *testing.T) {
 
 // P52
 func TestP52Places(t *testing.T) {
+	t.Parallel()
 	for _, p := range fewPkts() {
 		for _, at := range allPlaces() {
 			mustBeInForm(t, impl.Pkt{Kind: p.Kind, From: p.From, To: p.To, At: at, Text: p.Text}, true)
@@ -559,6 +575,7 @@ func TestP52Places(t *testing.T) {
 
 // P52
 func TestP52AckWithBytes(t *testing.T) {
+	t.Parallel()
 	texts := slices.Concat(bytesOfData(), fragments, wrongTexts())
 	for _, p := range fewPkts() {
 		if p.Kind != impl.PktAck {

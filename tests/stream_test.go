@@ -281,6 +281,7 @@ func wrongStreams() map[string]impl.Stream {
 }
 
 func TestStreamPutEdges(t *testing.T) {
+	t.Parallel()
 	ends := insideEnds()
 	e17 := impl.End{Addr: 1, Port: 7}
 	of := func(in string, texts ...string) impl.Stream {
@@ -362,6 +363,7 @@ func TestStreamPutEdges(t *testing.T) {
 }
 
 func TestStreamPlacesEdges(t *testing.T) {
+	t.Parallel()
 	_, s, _ := impl.StreamPut(nil, impl.Stream{}, 0, "ab@1:7;c@9", true)
 	if !impl.StreamOk(s) || impl.StreamOut(s) != "ab@9:10;c" {
 		t.Fatalf("%s: StreamOut is %q", told(s), impl.StreamOut(s))
@@ -391,6 +393,7 @@ func TestStreamPlacesEdges(t *testing.T) {
 
 // More went on than a text may be long.
 func TestStreamGoesOnLonger(t *testing.T) {
+	t.Parallel()
 	text := strings.Repeat("@1:1;", 8)
 	m, s, ok := impl.StreamPut(nil, impl.Stream{}, 0, text, true)
 	if !ok || len(m) != 1 || !impl.StreamOk(s) || impl.StreamOut(s) != strings.Repeat("@9:10;", 8) {
@@ -409,6 +412,7 @@ func TestStreamGoesOnLonger(t *testing.T) {
 }
 
 func TestStreamsAsWritten(t *testing.T) {
+	t.Parallel()
 	for _, c := range okStreams(t) {
 		if !wantStreamOk(c.s) || !impl.StreamOk(c.s) {
 			t.Fatalf("%s: StreamOk is %v", told(c.s), impl.StreamOk(c.s))
@@ -447,6 +451,7 @@ func mustHaveNoPlace(t *testing.T, s impl.Stream, below, more []int) {
 }
 
 func TestStreamPutAsWritten(t *testing.T) {
+	t.Parallel()
 	eachPut(t, func(c streamCase, at int, text string, out bool) {
 		m, s, ok := wantPut(t, c.m, c.s, at, text, out)
 		mustPut(t, c.m, c.s, at, text, out, answer{m, s, ok})
@@ -455,6 +460,7 @@ func TestStreamPutAsWritten(t *testing.T) {
 
 // All short texts of those bytes that matter, byte by byte, and in two.
 func TestShortStreamsAsWritten(t *testing.T) {
+	t.Parallel()
 	m := mapOf(insideEnds()[20:]...)
 	allTexts("@19:;a", 4, func(text string) {
 		for _, out := range []bool{true, false} {
@@ -471,6 +477,7 @@ func TestShortStreamsAsWritten(t *testing.T) {
 }
 
 func TestStreamsThatAreNotOk(t *testing.T) {
+	t.Parallel()
 	for what, s := range wrongStreams() {
 		if wantStreamOk(s) || impl.StreamOk(s) {
 			t.Errorf("%s: StreamOk is %v", what, impl.StreamOk(s))
@@ -495,6 +502,7 @@ func TestStreamsThatAreNotOk(t *testing.T) {
 }
 
 func TestStreamPutOfWrongThings(t *testing.T) {
+	t.Parallel()
 	wrongPlaces := []int{math.MinInt, math.MinInt + 5, -1 << 32, -41, -40, -2, -1, 41, 42, 80, 1 << 32, math.MaxInt - 5, math.MaxInt}
 	for _, c := range fewStreams(t) {
 		for _, out := range []bool{true, false} {
@@ -519,6 +527,7 @@ func TestStreamPutOfWrongThings(t *testing.T) {
 
 // The empty list and the nil list are the same value.
 func TestStreamEmptyAndNil(t *testing.T) {
+	t.Parallel()
 	for _, in := range []string{"", "@", "@9:10", "a"} {
 		none, empty := impl.Stream{In: in}, impl.Stream{In: in, Parts: make([]impl.Part, 0, 4)}
 		if impl.StreamOk(none) != impl.StreamOk(empty) || impl.StreamOk(none) != (in != "a") {
@@ -550,6 +559,7 @@ func scribbleParts(list []impl.Part) {
 
 // Nothing is written into an argument or behind its end, and no answer shares memory with it, or with another answer.
 func TestStreamAnswersAreNew(t *testing.T) {
+	t.Parallel()
 	pairMark, partMark := impl.Pair{Port: 77}, impl.Part{Size: 77, Text: "mark"}
 	for _, c := range fewStreams(t) {
 		pairs := append(slices.Clone(c.m), slices.Repeat([]impl.Pair{pairMark}, 12)...)
@@ -579,6 +589,7 @@ func TestStreamAnswersAreNew(t *testing.T) {
 
 // P32
 func TestP32WhatCameStays(t *testing.T) {
+	t.Parallel()
 	eachPut(t, func(c streamCase, at int, text string, out bool) {
 		then := put(c.m, c.s, at, text, out)
 		if !impl.StreamOk(then.s) || !strings.HasPrefix(then.s.In, c.s.In) || !strings.HasPrefix(impl.StreamOut(then.s), impl.StreamOut(c.s)) {
@@ -603,6 +614,7 @@ func TestP32WhatCameStays(t *testing.T) {
 
 // P33
 func TestP33OnceMore(t *testing.T) {
+	t.Parallel()
 	eachPut(t, func(c streamCase, at int, text string, out bool) {
 		then := put(c.m, c.s, at, text, out)
 		if !then.ok {
@@ -620,6 +632,7 @@ func TestP33OnceMore(t *testing.T) {
 
 // P34
 func TestP34ByteByByte(t *testing.T) {
+	t.Parallel()
 	eachPut(t, func(c streamCase, at int, text string, out bool) {
 		whole := put(c.m, c.s, at, text, out)
 		if !whole.ok {
@@ -648,6 +661,7 @@ func TestP34ByteByByte(t *testing.T) {
 
 // P35
 func TestP35FromNothing(t *testing.T) {
+	t.Parallel()
 	for _, text := range append(streamTexts(), mapTexts()...) {
 		for _, m := range streamMaps() {
 			then, s, ok := impl.StreamPut(m, impl.Stream{}, 0, text, true)
@@ -667,6 +681,7 @@ func TestP35FromNothing(t *testing.T) {
 
 // P36
 func TestP36ForAscends(t *testing.T) {
+	t.Parallel()
 	for _, c := range okStreams(t) {
 		all := len(impl.StreamOut(c.s))
 		before := 0
@@ -685,6 +700,7 @@ func TestP36ForAscends(t *testing.T) {
 
 // P37
 func TestP37NotTooEarly(t *testing.T) {
+	t.Parallel()
 	for _, c := range okStreams(t) {
 		before := 0
 		for out := range len(impl.StreamOut(c.s)) + 1 {
@@ -705,6 +721,7 @@ func TestP37NotTooEarly(t *testing.T) {
 
 // P38
 func TestP38ForAndBack(t *testing.T) {
+	t.Parallel()
 	for _, c := range okStreams(t) {
 		ends, _ := sums(c.s)
 		for in := range len(c.s.In) + 1 {
@@ -721,6 +738,7 @@ func TestP38ForAndBack(t *testing.T) {
 
 // P39
 func TestP39PartsArePieces(t *testing.T) {
+	t.Parallel()
 	for _, c := range okStreams(t) {
 		pieces := impl.TextPieces(c.s.In)
 		if !impl.StreamOk(c.s) || len(c.s.Parts) != len(pieces) {
@@ -746,6 +764,7 @@ func TestP39PartsArePieces(t *testing.T) {
 
 // P40
 func TestP40OutOfParts(t *testing.T) {
+	t.Parallel()
 	for _, c := range okStreams(t) {
 		out := impl.StreamOut(c.s)
 		if out != textOf(c.s.Parts) {
@@ -762,6 +781,7 @@ func TestP40OutOfParts(t *testing.T) {
 
 // P41
 func TestP41NoSuchPlace(t *testing.T) {
+	t.Parallel()
 	far, tooLong := 0, 0
 	eachPut(t, func(c streamCase, at int, text string, out bool) {
 		behind, over := at > len(c.s.In), at+len(text) > 40
@@ -783,6 +803,7 @@ func TestP41NoSuchPlace(t *testing.T) {
 
 // P42
 func TestP42TheMap(t *testing.T) {
+	t.Parallel()
 	given := 0
 	eachPut(t, func(c streamCase, at int, text string, out bool) {
 		then := put(c.m, c.s, at, text, out)
@@ -799,6 +820,7 @@ func TestP42TheMap(t *testing.T) {
 
 // P43
 func TestP43OneLetter(t *testing.T) {
+	t.Parallel()
 	for _, c := range okStreams(t) {
 		if len(c.s.In) == 40 {
 			continue
@@ -821,6 +843,7 @@ func TestP43OneLetter(t *testing.T) {
 
 // P44
 func TestP44WholePieces(t *testing.T) {
+	t.Parallel()
 	for _, c := range okStreams(t) {
 		in, out := sums(c.s)
 		for k := range in {
@@ -836,6 +859,7 @@ func TestP44WholePieces(t *testing.T) {
 
 // P45
 func TestP45NoBytes(t *testing.T) {
+	t.Parallel()
 	for _, c := range okStreams(t) {
 		for at := range len(c.s.In) + 1 {
 			mustPut(t, c.m, c.s, at, "", at%2 == 0, answer{c.m, c.s, true})

@@ -124,6 +124,7 @@ func pieceOf(e impl.End) impl.Piece {
 }
 
 func TestTextLimit(t *testing.T) {
+	t.Parallel()
 	if impl.TextMax != 40 {
 		t.Errorf("TextMax is %d", impl.TextMax)
 	}
@@ -146,6 +147,7 @@ func TestTextLimit(t *testing.T) {
 }
 
 func TestTextHeldEdges(t *testing.T) {
+	t.Parallel()
 	for text, want := range map[string]int{
 		"": 0, "a": 0, "1": 0, "1:1": 0, ":": 0, ";": 0,
 		"@": 1, "@1": 2, "@9": 2, "@8": 2, "@1:": 3, "@8:": 3, "@1:1": 4, "@1:9": 4, "@7:7": 4, "@9:1": 4, "@9:9": 4,
@@ -163,6 +165,7 @@ func TestTextHeldEdges(t *testing.T) {
 }
 
 func TestTextPiecesEdges(t *testing.T) {
+	t.Parallel()
 	one := impl.Piece{Size: 1}
 	of := func(addr, port int) impl.Piece { return pieceOf(impl.End{Addr: addr, Port: port}) }
 	for text, want := range map[string][]impl.Piece{
@@ -196,6 +199,7 @@ func TestTextPiecesEdges(t *testing.T) {
 
 // All short texts, and all of fragments, against what the document says, written a second time.
 func TestTextsAsWritten(t *testing.T) {
+	t.Parallel()
 	okTexts(func(text string) {
 		if !impl.TextOk(text) {
 			t.Fatalf("TextOk(%q) is false", text)
@@ -212,6 +216,7 @@ func TestTextsAsWritten(t *testing.T) {
 }
 
 func TestTextsThatAreNotOk(t *testing.T) {
+	t.Parallel()
 	for _, text := range wrongTexts() {
 		if impl.TextOk(text) || impl.TextHeld(text) != 0 || len(impl.TextPieces(text)) != 0 || len(impl.TextNames(text)) != 0 {
 			t.Errorf("%.60q: ok is %v, held %d, pieces %v, names %v", text, impl.TextOk(text), impl.TextHeld(text), impl.TextPieces(text), impl.TextNames(text))
@@ -221,6 +226,7 @@ func TestTextsThatAreNotOk(t *testing.T) {
 
 // What one call answers is not seen in what another does, spare room included.
 func TestTextAnswersAreNew(t *testing.T) {
+	t.Parallel()
 	const text = "@1:1;@9:10;a@4:4;@1"
 	pieces, names := impl.TextPieces(text), impl.TextNames(text)
 	for i := range pieces[:cap(pieces)] {
@@ -237,6 +243,7 @@ func TestTextAnswersAreNew(t *testing.T) {
 
 // P7
 func TestP7PartsOfOkTexts(t *testing.T) {
+	t.Parallel()
 	for _, text := range fewTexts() {
 		for i := 0; i <= len(text); i++ {
 			if !impl.TextOk(text[:i]) || !impl.TextOk(text[i:]) {
@@ -259,6 +266,7 @@ func TestP7PartsOfOkTexts(t *testing.T) {
 
 // P8
 func TestP8PiecesAreTheText(t *testing.T) {
+	t.Parallel()
 	okTexts(func(text string) {
 		at := 0
 		for _, p := range impl.TextPieces(text) {
@@ -282,6 +290,7 @@ func TestP8PiecesAreTheText(t *testing.T) {
 
 // P9
 func TestP9ByteByByte(t *testing.T) {
+	t.Parallel()
 	okTexts(func(text string) {
 		whole := impl.TextPieces(text)
 		for i := range len(text) {
@@ -296,6 +305,7 @@ func TestP9ByteByByte(t *testing.T) {
 
 // P10
 func TestP10WhatIsHeld(t *testing.T) {
+	t.Parallel()
 	okTexts(func(text string) {
 		if held := text[len(text)-impl.TextHeld(text):]; held != "" {
 			if held[0] != '@' || strings.Count(held, "@") != 1 || !formBegins(held) {
@@ -333,6 +343,7 @@ func formBegins(held string) bool {
 
 // P11
 func TestP11HeldOfHeld(t *testing.T) {
+	t.Parallel()
 	okTexts(func(text string) {
 		n := impl.TextHeld(text)
 		rest, held := text[:len(text)-n], text[len(text)-n:]
@@ -350,6 +361,7 @@ func TestP11HeldOfHeld(t *testing.T) {
 
 // P12
 func TestP12Names(t *testing.T) {
+	t.Parallel()
 	okTexts(func(text string) {
 		if got, want := impl.TextNames(text), namesOf(impl.TextPieces(text)); !slices.Equal(got, want) {
 			t.Fatalf("TextNames(%q) is %v, pieces name %v", text, got, want)
@@ -371,6 +383,7 @@ func TestP12Names(t *testing.T) {
 
 // P13
 func TestP13NameBetween(t *testing.T) {
+	t.Parallel()
 	for _, text := range fewTexts() {
 		pieces := impl.TextPieces(text)
 		at := 0
@@ -389,6 +402,7 @@ func TestP13NameBetween(t *testing.T) {
 
 // P14
 func TestP14BothTogether(t *testing.T) {
+	t.Parallel()
 	seconds := append([]string{"", strings.Repeat("@4:4;", 7), strings.Repeat("a", 30) + "@9:1"}, fragments...)
 	for _, a := range fewTexts() {
 		if impl.TextHeld(a) != 0 {
@@ -405,6 +419,7 @@ func TestP14BothTogether(t *testing.T) {
 
 // P15
 func TestP15Sizes(t *testing.T) {
+	t.Parallel()
 	okTexts(func(text string) {
 		for _, p := range impl.TextPieces(text) {
 			want := 1
@@ -426,6 +441,7 @@ func TestP15Sizes(t *testing.T) {
 
 // P16
 func TestP16HeldGrows(t *testing.T) {
+	t.Parallel()
 	okTexts(func(text string) {
 		if text == "" {
 			return
@@ -445,6 +461,7 @@ func TestP16HeldGrows(t *testing.T) {
 
 // P17
 func TestP17NamesAlone(t *testing.T) {
+	t.Parallel()
 	ends := anyEnds()
 	for first := range ends {
 		for step := 1; step < len(ends); step++ {
