@@ -190,12 +190,13 @@ func DoorOk(d Door) bool {
 	return doorwayOf(d).ok()
 }
 
-// DoorOut is what a door does with a packet from inside: what goes out, and whether anything does.
-func DoorOut(d Door, p Pkt) (Door, Pkt, bool) {
-	w := doorwayOf(d)
-	if !w.ok() || !PktOk(p) || !goesOut(p) {
-		return Door{}, Pkt{}, false
-	}
+// takes says whether the door is ok, and the packet in form: of all others no call tells anything, whatever their ends.
+func (w *doorway) takes(p Pkt) bool {
+	return w.ok() && PktOk(p)
+}
+
+// passOut is of a packet that the door takes, and that goes out.
+func (w *doorway) passOut(p Pkt) (Door, Pkt, bool) {
 	f := w.find(p.From, p.To)
 	if f == nil {
 		f = w.open(p.From, p.To)
@@ -208,12 +209,8 @@ func DoorOut(d Door, p Pkt) (Door, Pkt, bool) {
 	return w.pass(f, p, outward(), End{Addr: DoorAddr, Port: port}, p.To)
 }
 
-// DoorIn is what a door does with a packet from outside: what comes in, and whether anything does.
-func DoorIn(d Door, p Pkt) (Door, Pkt, bool) {
-	w := doorwayOf(d)
-	if !w.ok() || !PktOk(p) || !comesIn(p) {
-		return Door{}, Pkt{}, false
-	}
+// passIn is of a packet that the door takes, and that comes in.
+func (w *doorway) passIn(p Pkt) (Door, Pkt, bool) {
 	// A port that stands for nobody tells no end that has a flow.
 	inside, _ := MapIn(w.pairs, p.To.Port)
 	f := w.find(inside, p.From)
@@ -223,13 +220,34 @@ func DoorIn(d Door, p Pkt) (Door, Pkt, bool) {
 	return w.pass(f, p, inward(), p.From, inside)
 }
 
+// DoorOut is what a door does with a packet from inside: what goes out, and whether anything does.
+func DoorOut(d Door, p Pkt) (Door, Pkt, bool) {
+	w := doorwayOf(d)
+	if !w.takes(p) || !goesOut(p) {
+		return Door{}, Pkt{}, false
+	}
+	return w.passOut(p)
+}
+
+// DoorIn is what a door does with a packet from outside: what comes in, and whether anything does.
+func DoorIn(d Door, p Pkt) (Door, Pkt, bool) {
+	w := doorwayOf(d)
+	if !w.takes(p) || !comesIn(p) {
+		return Door{}, Pkt{}, false
+	}
+	return w.passIn(p)
+}
+
 // DoorPass is what a door does with a packet, from wherever it is.
 func DoorPass(d Door, p Pkt) (Door, Pkt, bool) {
+	w := doorwayOf(d)
 	switch {
+	case !w.takes(p):
+		return Door{}, Pkt{}, false
 	case goesOut(p):
-		return DoorOut(d, p)
+		return w.passOut(p)
 	case comesIn(p):
-		return DoorIn(d, p)
+		return w.passIn(p)
 	}
-	return doorwayOf(d).tell(), Pkt{}, false
+	return w.tell(), Pkt{}, false
 }

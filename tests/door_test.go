@@ -184,6 +184,9 @@ func wantDoorIn(t *testing.T, d impl.Door, p impl.Pkt) crossing {
 
 func wantPass(t *testing.T, d impl.Door, p impl.Pkt) crossing {
 	t.Helper()
+	if !wantDoorOk(d) || !wantPktOk(p) {
+		return crossing{}
+	}
 	if isOut(p) {
 		return wantDoorOut(t, d, p)
 	}
@@ -664,11 +667,46 @@ func TestPlaysAsWritten(t *testing.T) {
 	}
 }
 
+// mustBeNothing asks all three of a door that is not ok, or a packet that is not in form.
+func mustBeNothing(t *testing.T, what string, d impl.Door, p impl.Pkt) {
+	t.Helper()
+	mustCross(t, what+": DoorOut", d, p, doorOut(d, p), crossing{})
+	mustCross(t, what+": DoorIn", d, p, doorIn(d, p), crossing{})
+	mustCross(t, what+": DoorPass", d, p, doorPass(d, p), crossing{})
+}
+
+// sidesOf tells two ends from each side to each, from and to those of the flow that most doors here have, and others.
+func sidesOf(t *testing.T) [][2]impl.End {
+	t.Helper()
+	var twos [][2]impl.End
+	names := []string{"1:1", "3:8", "4:4", "6:1", "9:10", "9:17"}
+	for _, from := range names {
+		for _, to := range names {
+			twos = append(twos, [2]impl.End{endNamed(t, from), endNamed(t, to)})
+		}
+	}
+	return twos
+}
+
+// Nothing, whatever the ends of the packet are: such as go out, such as come in, and others.
 func TestDoorsThatAreNotOk(t *testing.T) {
 	t.Parallel()
 	var pkts []impl.Pkt
-	for _, text := range []string{"data 1:1 4:4 0 a", "data 1:1 4:4 7 a", "ack 1:1 4:4 0", "data 4:4 9:10 0 a", "ack 4:4 9:10 0", "data 2:2 6:6 0 @1:1;", "data 6:6 9:17 0 a", "ack 2:2 6:6 1"} {
+	for _, text := range []string{"data 1:1 4:4 0 a", "data 1:1 4:4 7 a", "ack 1:1 4:4 0", "data 4:4 9:10 0 a", "ack 4:4 9:10 0", "data 2:2 6:6 0 @1:1;", "data 6:6 9:17 0 a", "ack 2:2 6:6 1", "data 4:4 1:1 0 a", "ack 1:1 2:2 1"} {
 		pkts = append(pkts, pktOf(t, text))
+	}
+	pkts = append(pkts, impl.Pkt{})
+	for i, two := range sidesOf(t) {
+		p := impl.Pkt{Kind: 1 + i%2, From: two[0], To: two[1], At: i % 3}
+		if p.Kind == 1 {
+			p.Text = "a"
+		}
+		pkts = append(pkts, p)
+		if i%5 == 0 {
+			// Not in form either.
+			p.At += 100
+			pkts = append(pkts, p)
+		}
 	}
 	for what, d := range wrongDoors(t) {
 		if wantDoorOk(d) || impl.DoorOk(d) {
@@ -677,18 +715,11 @@ func TestDoorsThatAreNotOk(t *testing.T) {
 		}
 		few := pkts
 		if len(d.Flows) > 100 || len(d.Map) > 100 {
-			few = pkts[:3]
+			few = append(pkts[:3:3], pktOf(t, "data 4:4 1:1 0 a"), impl.Pkt{})
 		}
 		for _, p := range few {
-			mustCross(t, what+": DoorOut", d, p, doorOut(d, p), crossing{})
-			mustCross(t, what+": DoorIn", d, p, doorIn(d, p), crossing{})
-			mustCross(t, what+": DoorPass", d, p, doorPass(d, p), crossing{})
+			mustBeNothing(t, what, d, p)
 		}
-		// Of other ends all stays, ok or not.
-		p := pktOf(t, "data 4:4 1:1 0 a")
-		mustCross(t, what+": DoorOut", d, p, doorOut(d, p), crossing{})
-		mustCross(t, what+": DoorIn", d, p, doorIn(d, p), crossing{})
-		mustCross(t, what+": DoorPass", d, p, doorPass(d, p), crossing{d: d})
 	}
 }
 
@@ -717,21 +748,24 @@ func TestPktsOfOtherEnds(t *testing.T) {
 				if !outsideSet[from] || !doorSet[to] {
 					mustCross(t, "DoorIn", d, p, doorIn(d, p), crossing{})
 				}
+				if !isOut(p) && !isIn(p) {
+					mustCross(t, "DoorPass", d, p, doorPass(d, p), crossing{d: d})
+				}
 			}
 			e, kind := none[i%len(none)], 1+i%2
 			for _, p := range []impl.Pkt{{Kind: kind, From: from, To: e, Text: "a"}, {Kind: kind, From: e, To: from}, {Kind: kind, From: e, To: e, Text: "a"}} {
-				mustCross(t, "DoorOut", d, p, doorOut(d, p), crossing{})
-				mustCross(t, "DoorIn", d, p, doorIn(d, p), crossing{})
-				mustCross(t, "DoorPass", d, p, doorPass(d, p), crossing{d: d})
+				mustBeNothing(t, "an end that is none", d, p)
 			}
 		}
 	}
 }
 
+// Nothing, whatever the ends of the packet are: such as go out, such as come in, and others.
 func TestPktsNotInForm(t *testing.T) {
 	t.Parallel()
 	for _, d := range fewDoors(t) {
-		for _, two := range [][2]impl.End{{endNamed(t, "1:1"), endNamed(t, "4:4")}, {endNamed(t, "4:4"), endNamed(t, "9:10")}, {endNamed(t, "3:8"), endNamed(t, "5:1")}, {endNamed(t, "6:1"), endNamed(t, "9:17")}} {
+		mustBeNothing(t, "the packet that is nothing", d, impl.Pkt{})
+		for _, two := range sidesOf(t) {
 			wrong := []impl.Pkt{{Kind: 1}, {Kind: 2, Text: "a"}, {Kind: 2, Text: " "}, {Kind: 1, Text: " "}}
 			for _, kind := range wrongKinds {
 				wrong = append(wrong, impl.Pkt{Kind: kind, Text: "a"}, impl.Pkt{Kind: kind})
@@ -747,9 +781,7 @@ func TestPktsNotInForm(t *testing.T) {
 				if impl.PktOk(p) {
 					t.Fatalf("%s is in form", toldPkt(p))
 				}
-				mustCross(t, "DoorOut", d, p, doorOut(d, p), crossing{})
-				mustCross(t, "DoorIn", d, p, doorIn(d, p), crossing{})
-				mustCross(t, "DoorPass", d, p, doorPass(d, p), crossing{})
+				mustBeNothing(t, "not in form", d, p)
 			}
 		}
 	}
